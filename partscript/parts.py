@@ -1,0 +1,174 @@
+"""Whether a script can be kept by those who each know their own part alone.
+
+A place is a list: from, to, and then of each of its ways word and next.
+A state is a rising list of place numbers, with OVER as its last member if over is in it;
+so two states are the same if their lists are.
+"""
+
+OVER = 255
+
+NO_SCRIPT = -22
+TOO_MUCH = -75
+
+LEAST_PARTIES = 2
+MOST_PARTIES = 8
+MOST_PLACES = 32
+PLACE_LENGTHS = (4, 6, 8, 10)
+MOST_WORDS = 16
+MOST_STATES = 64
+
+CLEAR = 0
+OVER_AMONG_PLACES = 1
+SPEAKS_AND_LISTENS = 2
+SPEAKS_UNLIKE = 3
+LISTENS_TO_SEVERAL = 4
+
+
+def words_at(place):
+    return [place[k] for k in range(2, len(place), 2)]
+
+
+def nexts_at(place):
+    return [place[k] for k in range(3, len(place), 2)]
+
+
+def is_at(c, place):
+    return place[0] == c or place[1] == c
+
+
+def is_place(p, n, place):
+    if len(place) not in PLACE_LENGTHS:
+        return False
+    if place[0] >= p or place[1] >= p or place[0] == place[1]:
+        return False
+    words = words_at(place)
+    if len(set(words)) != len(words):
+        return False
+    return all([target < n or target == OVER for target in nexts_at(place)])
+
+
+def is_script(p, s):
+    if p < LEAST_PARTIES or p > MOST_PARTIES:
+        return False
+    if len(s) < 1 or len(s) > MOST_PLACES:
+        return False
+    return all([is_place(p, len(s), place) for place in s])
+
+
+def walk_past_others(c, s, q):
+    """All that is come to from place q, itself too, when only c's own places and over stop the walk."""
+    found = [q]
+    k = 0
+    while k < len(found):
+        here = found[k]
+        if here != OVER and not is_at(c, s[here]):
+            for target in nexts_at(s[here]):
+                if target not in found:
+                    found.append(target)
+        k += 1
+    return found
+
+
+def stops_of(c, s, walk):
+    return [q for q in walk if q == OVER or is_at(c, s[q])]
+
+
+def all_comings(c, s):
+    """For each place, the state that c comes to from it."""
+    walks = [walk_past_others(c, s, q) for q in range(len(s))]
+    stops = [stops_of(c, s, walk) for walk in walks]
+    comings = []
+    for walk, own in zip(walks, stops):
+        state = sorted(own)
+        # Others who go round for ever never call on c again: for c that is over.
+        if OVER not in walk and any([stops[q] == [] for q in walk]):
+            state.append(OVER)
+        comings.append(state)
+    return comings
+
+
+def coming_from(comings, target):
+    return [OVER] if target == OVER else comings[target]
+
+
+def places_in(s, state):
+    return [s[q] for q in state if q != OVER]
+
+
+def words_in(s, state):
+    words = []
+    for place in places_in(s, state):
+        words.extend(words_at(place))
+    return sorted(set(words))
+
+
+def state_behind(s, comings, state, word):
+    found = {}
+    for place in places_in(s, state):
+        for said, target in zip(words_at(place), nexts_at(place)):
+            if said == word:
+                for q in coming_from(comings, target):
+                    found[q] = True
+    return sorted(found.keys())
+
+
+def speaks_alike(place, other):
+    # The order in which a place's words are written says nothing.
+    return place[1] == other[1] and sorted(words_at(place)) == sorted(words_at(other))
+
+
+def fault_of_speaker(places):
+    alike = all([speaks_alike(place, places[0]) for place in places])
+    return CLEAR if alike else SPEAKS_UNLIKE
+
+
+def fault_of_listener(places):
+    alike = all([place[0] == places[0][0] for place in places])
+    return CLEAR if alike else LISTENS_TO_SEVERAL
+
+
+def fault_of_state(c, s, state):
+    places = places_in(s, state)
+    if places == []:
+        return CLEAR
+    if OVER in state:
+        return OVER_AMONG_PLACES
+    spoken = [place for place in places if place[0] == c]
+    if spoken == []:
+        return fault_of_listener(places)
+    if len(spoken) < len(places):
+        return SPEAKS_AND_LISTENS
+    return fault_of_speaker(places)
+
+
+def fault_of_party(c, s):
+    """What check answers because of party c; an empty list if all its states are clear."""
+    comings = all_comings(c, s)
+    states = [comings[0]]
+    k = 0
+    while k < len(states):
+        fault = fault_of_state(c, s, states[k])
+        if fault != CLEAR:
+            return [1, c, fault]
+        words = words_in(s, states[k])
+        if len(words) > MOST_WORDS:
+            return [TOO_MUCH]
+        for word in words:
+            behind = state_behind(s, comings, states[k], word)
+            if behind not in states:
+                if len(states) == MOST_STATES:
+                    return [TOO_MUCH]
+                states.append(behind)
+        k += 1
+    return []
+
+
+def check(p, s):
+    """[0] if the script can be kept; [1, party, what is wrong]; or a refusal alone."""
+    if not is_script(p, s):
+        return [NO_SCRIPT]
+    for c in range(p):
+        answer = fault_of_party(c, s)
+        if answer != []:
+            return answer
+    return [0]
