@@ -1,4 +1,4 @@
-"""check against the document's words taken one by one, over all small scripts and over many larger ones."""
+"""check against the document's words taken one by one, over all scripts of a small form and over many mixed ones."""
 
 import itertools
 import unittest
