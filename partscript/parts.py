@@ -1,13 +1,18 @@
-"""Whether a script can be kept by those who each know their own part alone.
+"""Each one's part of a script, and whether it can be kept by those who each know their own part alone.
 
 A place is a list: from, to, and then of each of its ways word and next.
 A state is a rising list of place numbers, with OVER as its last member if over is in it;
 so two states are the same if their lists are.
+A state's row is a list: kind, other, how many words, and then of each of these the word and the state's number behind.
 """
 
 OVER = 255
 
+KEPT = 0
+NOT_CLEAR = 1
+
 NO_SCRIPT = -22
+NOT_KEPT = -71
 TOO_MUCH = -75
 
 LEAST_PARTIES = 2
@@ -22,6 +27,10 @@ OVER_AMONG_PLACES = 1
 SPEAKS_AND_LISTENS = 2
 SPEAKS_UNLIKE = 3
 LISTENS_TO_SEVERAL = 4
+
+NOTHING_MORE = 0
+SPEAKS = 1
+LISTENS = 2
 
 
 def words_at(place):
@@ -141,26 +150,53 @@ def fault_of_state(c, s, state):
     return fault_of_speaker(places)
 
 
-def fault_of_party(c, s):
-    """What check answers because of party c; an empty list if all its states are clear."""
+def trouble_of_state(c, s, state):
+    """What check answers because of the state by itself; an empty list if nothing is wrong with it."""
+    fault = fault_of_state(c, s, state)
+    if fault != CLEAR:
+        return [NOT_CLEAR, c, fault]
+    if len(words_in(s, state)) > MOST_WORDS:
+        return [TOO_MUCH]
+    return []
+
+
+def kind_and_other(c, s, state):
+    places = places_in(s, state)
+    if places == []:
+        return [NOTHING_MORE, 0]
+    # The state is clear, so its first place tells what all of them do.
+    if places[0][0] == c:
+        return [SPEAKS, places[0][1]]
+    return [LISTENS, places[0][0]]
+
+
+def row_of_state(c, s, comings, state, states):
+    """The state's row; a state behind it that isn't among the states yet is added to them."""
+    words = words_in(s, state)
+    row = kind_and_other(c, s, state)
+    row.append(len(words))
+    for word in words:
+        behind = state_behind(s, comings, state, word)
+        if behind not in states:
+            states.append(behind)
+        row.extend([word, states.index(behind)])
+    return row
+
+
+def walk_of_party(c, s):
+    """A pair: what check answers because of party c, or an empty list; and the rows of its states up to there."""
     comings = all_comings(c, s)
     states = [comings[0]]
-    k = 0
-    while k < len(states):
-        fault = fault_of_state(c, s, states[k])
-        if fault != CLEAR:
-            return [1, c, fault]
-        words = words_in(s, states[k])
-        if len(words) > MOST_WORDS:
-            return [TOO_MUCH]
-        for word in words:
-            behind = state_behind(s, comings, states[k], word)
-            if behind not in states:
-                if len(states) == MOST_STATES:
-                    return [TOO_MUCH]
-                states.append(behind)
-        k += 1
-    return []
+    rows = []
+    while len(rows) < len(states):
+        state = states[len(rows)]
+        trouble = trouble_of_state(c, s, state)
+        if trouble != []:
+            return (trouble, rows)
+        rows.append(row_of_state(c, s, comings, state, states))
+        if len(states) > MOST_STATES:
+            return ([TOO_MUCH], rows)
+    return ([], rows)
 
 
 def check(p, s):
@@ -168,7 +204,23 @@ def check(p, s):
     if not is_script(p, s):
         return [NO_SCRIPT]
     for c in range(p):
-        answer = fault_of_party(c, s)
-        if answer != []:
-            return answer
-    return [0]
+        trouble = walk_of_party(c, s)[0]
+        if trouble != []:
+            return trouble
+    return [KEPT]
+
+
+def part(p, c, s):
+    """How many states party c has, and then the row of each; or a refusal alone."""
+    answer = check(p, s)
+    if answer[0] == NO_SCRIPT or c >= p:
+        return [NO_SCRIPT]
+    if answer[0] == NOT_CLEAR:
+        return [NOT_KEPT]
+    if answer[0] == TOO_MUCH:
+        return [TOO_MUCH]
+    rows = walk_of_party(c, s)[1]
+    result = [len(rows)]
+    for row in rows:
+        result.extend(row)
+    return result

@@ -8,70 +8,8 @@ import copy
 import io
 import unittest
 
+from helper import Unchangeable, branching, moved, renumbered, shifting, with_parties, wordy
 from partscript.parts import check
-
-
-def branching(*behind):
-    """0 tells 1, but not 2, which one of the places behind it is."""
-    first = [0, 1]
-    for k in range(len(behind)):
-        first += [k + 1, k + 1]
-    return [first] + [list(place) for place in behind]
-
-
-def shifting(depth, ahead):
-    """Party 0 listens to 1 for ever and has ahead + 2 ** depth states; the script can be kept but for their number.
-
-    Behind word 1 at the first of depth + 1 places 1 tells 2 alone whether it stays there or goes along the others,
-    so each set of those others is a state of 0, with that first place.
-    """
-    line = [ahead + k for k in range(depth + 1)]
-    choice = ahead + depth + 1
-    s = [[1, 0, 1, k + 1] for k in range(ahead)]
-    s.append([1, 0, 1, choice, 2, line[0]])
-    for after in line[2:] + line[:1]:
-        s.append([1, 0, 1, after, 2, after])
-    s.append([1, 2, 1, line[0], 2, line[1]])
-    return s
-
-
-def wordy(count):
-    """Party 0 comes from place 0 to places 2 to 6, and these have count different words, 17 to 20."""
-    s = [[1, 2, 1, 2, 2, 3, 3, 4, 4, 1], [1, 2, 1, 5, 2, 6]]
-    for k in range(5):
-        place = [1, 0]
-        for word in range(4 * k, min(4 * k + 4, count)):
-            place += [word, 255]
-        s.append(place)
-    return s
-
-
-def renumbered(s, order):
-    """The same script, its place q now being place order[q]."""
-    result = [None] * (max(order) + 1)
-    for q, place in enumerate(s):
-        other = list(place)
-        for k in range(3, len(place), 2):
-            if place[k] != 255:
-                other[k] = order[place[k]]
-        result[order[q]] = other
-    return result
-
-
-def moved(s, places):
-    """The same places, to be put behind that many others."""
-    order = [q + places for q in range(len(s))]
-    return renumbered(s, order)[places:]
-
-
-class Unchangeable(list):
-    """A list that fails as soon as something tries to change it."""
-
-    def refuse(self, *args, **kwargs):
-        raise RuntimeError("what was handed in is changed")
-
-    append = clear = extend = insert = pop = remove = reverse = sort = refuse
-    __setitem__ = __delitem__ = __iadd__ = __imul__ = refuse
 
 
 class CheckTest(unittest.TestCase):
@@ -320,15 +258,12 @@ class TooMuch(CheckTest):
         s = [[0, 1, 1, (k + 1) % 32] for k in range(32)]
         self.answers([0], 8, s)
 
-    def with_parties(self, s, parties):
-        return [[parties[place[0]], parties[place[1]]] + place[2:] for place in s]
-
     def test_too_much_at_a_lower_party_than_a_state_that_is_not_clear(self):
         s = [[1, 2, 4, 1, 5, 2], [1, 3, 1, 3], [2, 3, 1, 3]]
         for rest in (wordy(17), shifting(6, 1)):
             whole = s + moved(rest, 3)
             self.answers([-75], 4, whole)
-            self.answers([1, 0, 4], 4, self.with_parties(whole, (3, 1, 2, 0)))
+            self.answers([1, 0, 4], 4, with_parties(whole, (3, 1, 2, 0)))
 
     def shifting_with_fault(self, q):
         """Behind word 0 at place q 0 doesn't know which of two will speak; there would be more than 64 states."""
